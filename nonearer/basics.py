@@ -50,3 +50,9 @@ def is_lot_of_numbers(value):
 def lot_of(things):
     """Returns the lot of a list of things that may be members of a set."""
     return tuple(sorted(set(things)))
+
+
+def without_doubles(things):
+    """Returns the lot of things that Python compares, but that need not be members of a set."""
+    ordered = sorted(things)
+    return tuple([thing for at, thing in enumerate(ordered) if at == 0 or thing != ordered[at - 1]])

@@ -1,5 +1,6 @@
 """Cuts: what may be left of a disk when writing is stopped."""
 
+from nonearer.basics import without_doubles
 from nonearer.disk import Disk
 from nonearer.errors import Refused
 
@@ -13,16 +14,12 @@ def chosen(choice, at, most):
 
 def cut(disk, choice):
     """Returns the disk that a cut leaves, by a choice of how many changes of names and how many cells stay."""
-    files = disk.files_behind(chosen(choice, 0, disk.unsafe_changes()))
+    all_files = disk.files_behind_each()
+    files = all_files[chosen(choice, 0, len(all_files) - 1)]
     left = {}
     for at, (name, cells, safe) in enumerate(files):
         left[name] = cells[:safe + chosen(choice, at + 1, len(cells) - safe)]
     return Disk(left)
-
-
-def names_kept(disk):
-    """Returns the files that have names behind none, some or all changes of names that are not safe."""
-    return [disk.files_behind(many) for many in range(disk.unsafe_changes() + 1)]
 
 
 def cell_choices(files):
@@ -35,11 +32,14 @@ def cell_choices(files):
 
 def cut_count(disk):
     """Returns the number of ways to cut a disk."""
-    return sum([cell_choices(files) for files in names_kept(disk)])
+    return sum([cell_choices(files) for files in disk.files_behind_each()])
 
 
 def images_of(files):
-    """Returns the list of the images of some files by all ways to choose how many of their cells stay."""
+    """Returns the list of the images of some files by all ways to choose how many of their cells stay.
+
+    Each one is there once and they ascend, as the names do, and fewer cells of a file come before more of them.
+    """
     images = [()]
     for name, cells, safe in files:
         kept = [(name, cells[:many]) for many in range(safe, len(cells) + 1)]
@@ -47,16 +47,19 @@ def images_of(files):
     return images
 
 
-def images_left(disk):
-    """Returns the list of the images that all ways to cut a disk leave, some of them perhaps more than once."""
-    return [image for files in names_kept(disk) for image in images_of(files)]
+def lot_of_images(choices):
+    """Returns the lot of the images of all of a list of one or more tuples of files."""
+    # To sort images takes long, as they begin alike; those of one tuple of files ascend already.
+    if len(choices) == 1:
+        return tuple(images_of(choices[0]))
+    return without_doubles([image for files in choices for image in images_of(files)])
 
 
 def all_cuts(disk):
     """Returns the lot of the images that a cut can leave."""
     if cut_count(disk) > MOST_CUTS:
         raise Refused("size")
-    return tuple(sorted(set(images_left(disk))))
+    return lot_of_images(disk.files_behind_each())
 
 
 def play(disk, call):
@@ -94,13 +97,30 @@ def count_moments(files, calls):
     return many
 
 
+def choices_at_peaks(files, calls):
+    """Returns the list of the files behind each choice of names, at all times before and behind calls that matter.
+
+    A sync leaves no image that could not be left before, and any other call leaves all images that could be. So just
+    those times matter before which another call was made last, and behind which a sync changes what is safe.
+    """
+    disk = Disk(files)
+    choices = []
+    is_peak = True
+    last = disk.files_behind_each()
+    for call in calls:
+        play(disk, call)
+        now = disk.files_behind_each()
+        if call[0] not in ("sync", "sync_names"):
+            is_peak = True
+        elif is_peak and now != last:
+            choices.extend(last)
+            is_peak = False
+        last = now
+    return choices + last if is_peak else choices
+
+
 def moments(files, calls):
     """Returns the lot of the images that a cut can leave before or behind any of some calls."""
     if count_moments(files, calls) > MOST_CUTS:
         raise Refused("size")
-    disk = Disk(files)
-    images = images_left(disk)
-    for call in calls:
-        play(disk, call)
-        images.extend(images_left(disk))
-    return tuple(sorted(set(images)))
+    return lot_of_images(choices_at_peaks(files, calls))

@@ -1,6 +1,6 @@
 """A disk in memory that knows which of its cells and names would surely outlast a cut."""
 
-from nonearer.basics import DIGITS, LETTERS, is_int, is_word_of
+from nonearer.basics import DIGITS, LETTERS, is_int, is_word_of, lot_of
 from nonearer.errors import Refused
 
 LONGEST_FILE_NAME = 20
@@ -111,17 +111,15 @@ class Disk:
         """Returns the tuple of the calls that changed the disk, or what is safe."""
         return tuple(self._calls)
 
-    def unsafe_changes(self):
-        """Returns how many changes of names are not safe."""
-        return len(self._unsafe_changes)
+    def files_behind_each(self):
+        """Returns the list of the files that have names behind none, some and all changes that are not safe.
 
-    def files_behind(self, many):
-        """Returns the files that have names when just the first `many` changes that are not safe have been made.
-
-        They are an ascending tuple of triples: the name, all cells, and how many of these are safe.
+        The files are an ascending tuple of triples: the name, all cells, and how many of these are safe.
         """
-        names = self._safe_names
-        for change in self._unsafe_changes[:many]:
-            names = changed_names(names, change)
-        files = [(name, names[name]) for name in sorted(names)]
-        return tuple([(name, tuple(self._cells[number]), self._safe_cells[number]) for name, number in files])
+        kept = [self._safe_names]
+        for change in self._unsafe_changes:
+            kept.append(changed_names(kept[-1], change))
+        numbers = lot_of([number for names in kept for number in names.values()])
+        cells = {number: tuple(self._cells[number]) for number in numbers}
+        return [tuple([(name, cells[names[name]], self._safe_cells[names[name]]) for name in sorted(names)])
+                for names in kept]

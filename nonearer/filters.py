@@ -57,6 +57,11 @@ def check_filter(value):
         raise InvalidFilter(len(parts) - 1)
 
 
+def is_filter(value):
+    """Returns whether any value is a filter."""
+    return is_part(parts_of(value)[-1])
+
+
 def part_at(sieve, number):
     """Returns the part of a filter that has a number."""
     parts = parts_of(sieve)

@@ -29,6 +29,15 @@ def check_item(value, many):
         raise InvalidItem(2)
 
 
+def is_item(value, many):
+    """Returns whether any value is an item with a vector of so many places."""
+    try:
+        check_item(value, many)
+    except InvalidItem:
+        return False
+    return True
+
+
 def label_of(item, name):
     """Returns the integer of an item's label with a name, `None` if it has none."""
     for label in item[2]:

@@ -55,9 +55,14 @@ def cell_of(kind, centre, vectors):
     return "cell", centre, first_nearest(kind, centre, vectors)[0], radius_of(kind, centre, vectors)
 
 
+def is_form(value):
+    """Returns whether any value is a form of regions."""
+    return isinstance(value, str) and value in ("balls", "cells", "boxes")
+
+
 def region_of(kind, form, vectors):
     """Returns the region of a form that holds one or more vectors."""
-    if not isinstance(form, str) or form not in ("balls", "cells", "boxes"):
+    if not is_form(form):
         raise Refused("form")
     if form == "balls":
         return ball_of(kind, middle_of(vectors), vectors)

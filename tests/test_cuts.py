@@ -163,8 +163,8 @@ class CutTest(Case):
             if cut_count(disk) > 400:
                 continue
             wanted, ways = set(), 0
-            for many in range(disk.unsafe_changes() + 1):
-                most = [range(len(cells) - safe + 1) for _, cells, safe in disk.files_behind(many)]
+            for many, kept in enumerate(disk.files_behind_each()):
+                most = [range(len(cells) - safe + 1) for _, cells, safe in kept]
                 for rest in itertools.product(*most):
                     image = left_by_words(files, calls, (many,) + rest)
                     self.same(cut(disk, (many,) + rest).image(), image)

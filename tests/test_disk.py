@@ -79,7 +79,7 @@ class DiskTest(Case):
             self.disk.rename(name, "b")
 
     def test_names_that_are_refused(self):
-        before, unsafe = self.disk.image(), self.disk.unsafe_changes()
+        before, unsafe = self.disk.image(), self.disk.files_behind_each()
         for name in odd_values() + NO_NAMES + ["c"]:
             for call in (self.disk.remove, self.disk.sync, self.disk.read):
                 self.refuses(Refused("name"), call, name)
@@ -91,7 +91,7 @@ class DiskTest(Case):
             self.refuses(Refused("name"), self.disk.make, name)
         self.same(self.disk.image(), before)
         self.same(self.disk.calls(), ())
-        self.same(self.disk.unsafe_changes(), unsafe)
+        self.same(self.disk.files_behind_each(), unsafe)
 
     def test_cells_that_are_refused(self):
         for cells in odd_values() + NO_CELLS:

@@ -35,6 +35,50 @@ FUNCTIONS = {
                 "floor_of": "kind region vector", "ceiling_of": "kind region vector"},
     "spread": {"check_spread": "value places", "shard_count": "spread", "home_of": "spread item",
                "spread_out": "spread state", "strays": "spread states", "moves_for": "spread states"},
+    "summaries": {"summary": "items", "joined_summary": "one other", "is_summary": "value", "example_labels": "told",
+                  "is_possible": "labels told", "verdict": "sieve told", "may_pass": "sieve told",
+                  "must_pass": "sieve told"},
+    "around": {"grown": "kind region vector", "joined_region": "kind one other", "box_around": "kind region",
+               "is_inside": "kind inner outer", "floor_between": "kind one other",
+               "reach_word": "kind region vector reach"},
+    "codes": {"is_coder": "value places", "ladder_of": "integers many", "coder_of": "vectors many",
+              "code_of": "coder vector", "code_box": "coder code", "code_floor": "kind coder code vector",
+              "code_ceiling": "kind coder code vector", "coded": "coder state", "widened": "coder vector"},
+    "deciding": {"count_choices": "sieve", "possible_labels": "sieve told", "passing_labels": "sieve",
+                 "parting_labels": "one other"},
+    "forms": {"plain_filter": "sieve", "opposite_filter": "sieve", "is_plain_filter": "sieve"},
+    "lots": {"all_lots": "index", "lot_count": "index", "depth_of": "index", "all_keys": "lot", "lots_in": "lot",
+             "own_keys": "lot", "lot_at": "index path", "path_of": "index key", "index_fault": "value state",
+             "is_sound": "value state"},
+    "questions": {"check_question": "value places", "check_deed": "value places", "deed_key": "deed"},
+    "walks": {"graph_of": "state kind many", "is_graph": "state value", "two_way": "state kind graph",
+              "reached_keys": "state graph key", "walk": "state kind graph vector key",
+              "guess": "state graph question key room"},
+    "building": {"built": "state kind form * room", "built_lot": "state keys kind form * room",
+                 "centres_of": "kind vectors many", "cells_of": "kind centres vectors",
+                 "rings_of": "kind centre vectors", "most_depth": "count form", "most_lots": "count"},
+    "papers": {"answer_reach": "question answer", "closing_word": "kind vector sieve reach lot",
+               "looked": "index state kind vector sieve reach steps", "least_steps": "index kind vector sieve reach",
+               "paper_of": "index question answer", "within_paper": "index state kind vector reach sieve",
+               "fewer": "paper many", "opened_lots": "index steps", "work_of": "index steps",
+               "step_of_key": "index steps key", "right_count": "index kind vector sieve reach",
+               "all_right_steps": "index kind vector sieve reach"},
+    "plain": {"is_state": "value places", "done": "state deed", "done_all": "state deeds", "state_of": "items",
+              "last_deeds": "deeds", "deeds_between": "one other", "passing_keys": "state sieve",
+              "nearest": "state question", "within": "state kind vector reach sieve",
+              "count_within": "state kind vector reach sieve", "reach_of": "state question",
+              "rank_of": "state question key", "union_of": "states", "first_of_all": "answers many",
+              "answer_fault": "state question value"},
+    "search": {"found": "index state question * known=", "found_within": "index state kind vector reach sieve",
+               "counted": "index state kind vector reach sieve", "found_behind": "index state question pair"},
+    "changes": {"depth_limit": "count", "is_tidy": "value state", "tidy_fault": "index state",
+                "place_for": "index lots vector", "holding_lots": "index key", "with_item": "index state item",
+                "without_key": "index state key", "after_deed": "index state deed",
+                "after_deeds": "index state deeds", "changed_into": "index state other", "rebuilt": "index state"},
+    "extremes": {"farthest": "index state question", "closest": "index state many sieve"},
+    "guesses": {"is_guess": "state question value", "bounded": "index state question pairs", "is_factor": "value",
+                "is_loose": "state question factor value", "loose_paper": "index state question factor",
+                "is_loose_paper": "index state question factor value"},
 }
 
 CLASSES = {
@@ -48,7 +92,14 @@ CLASSES = {
                       "remove": "name", "sync": "name", "sync_names": "", "read": "name", "names": "", "image": "",
                       "calls": ""}},
     "log": {"Log": {"__init__": "disk name", "entries": "", "write": "entry", "sync": "", "synced": ""}},
+    "lots": {"Index": {"__init__": "kind form lot room", "__eq__": "other"}},
+    "papers": {"Paper": {"__init__": "answer steps"}},
+    "search": {"Search": {"__init__": "index state kind vector sieve * known= behind=", "step": "", "more": "many",
+                          "pairs": "", "bound": "", "opened": "", "passed": ""}},
 }
+
+# Classes whose arguments are attributes, which are set when an object is created.
+KEPT = {"lots": ["Index"], "papers": ["Paper"], "search": ["Search"]}
 
 
 def defined_in(module, kind):
@@ -58,9 +109,15 @@ def defined_in(module, kind):
 
 
 def parameters(function):
-    """Returns the names of a function's parameters, and whether one has a default value."""
-    found = inspect.signature(function).parameters.values()
-    return [one.name for one in found], any(one.default is not inspect.Parameter.empty for one in found)
+    """Returns the names of a function's parameters, a `*` before those by keyword alone, and `=` behind a default."""
+    words = []
+    for one in inspect.signature(function).parameters.values():
+        if one.kind == inspect.Parameter.KEYWORD_ONLY and "*" not in words:
+            words.append("*")
+        has_default = one.default is not inspect.Parameter.empty
+        words.append(one.name + ("=" if has_default else ""))
+        assert not has_default or one.default is None, function
+    return words
 
 
 class InterfaceTest(unittest.TestCase):
@@ -71,7 +128,7 @@ class InterfaceTest(unittest.TestCase):
             here = defined_in(module, ast.FunctionDef)
             for name, words in functions.items():
                 self.assertIn(name, here)
-                self.assertEqual(parameters(getattr(there, name)), (words.split(), False), name)
+                self.assertEqual(parameters(getattr(there, name)), words.split(), name)
 
     def test_classes(self):
         for module, classes in CLASSES.items():
@@ -82,12 +139,22 @@ class InterfaceTest(unittest.TestCase):
                 for method, words in methods.items():
                     self.assertIn(method, own)
                     found = parameters(getattr(getattr(there, name), method))
-                    self.assertEqual(found, (["self"] + words.split(), False), (name, method))
+                    self.assertEqual(found, ["self"] + words.split(), (name, method))
 
     def test_no_class_is_derived_from_another_but_errors(self):
         for module, classes in CLASSES.items():
             for name, node in defined_in(module, ast.ClassDef).items():
                 self.assertTrue(module == "errors" or node.bases == [], name)
+
+    def test_arguments_are_kept_as_attributes(self):
+        for module, names in KEPT.items():
+            for name in names:
+                words = CLASSES[module][name]["__init__"].replace("*", "").replace("=", "").split()
+                node = defined_in(module, ast.ClassDef)[name]
+                start = [one for one in node.body if getattr(one, "name", "") == "__init__"][0]
+                stored = [one.attr for one in ast.walk(start)
+                          if isinstance(one, ast.Attribute) and isinstance(one.ctx, ast.Store)]
+                self.assertEqual([one for one in stored if not one.startswith("_")], words)
 
     def test_values(self):
         distances = importlib.import_module("nonearer.distances")

@@ -186,7 +186,8 @@ class ShapesTest(unittest.TestCase):
                 if isinstance(node, ast.Compare):
                     for sign, other in zip(node.ops, node.comparators):
                         if isinstance(sign, (ast.Is, ast.IsNot)):
-                            self.assertIn(getattr(other, "value", 0), (None, True, False), file)
+                            self.assertIsInstance(other, ast.Constant, file)
+                            self.assertIn(str(other.value), ("None", "True", "False"), file)
 
     def test_functions(self):
         for file, tree in TREES.items():
