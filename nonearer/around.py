@@ -80,7 +80,8 @@ def floor_between(kind, one, other):
             return floor_between_boxes(kind, one, other)
         return floor_between(kind, other, one)
     near, far = floor_of(kind, one, other[1]), ceiling_of(kind, one, other[1])
-    if other[0] == "cell" and far < other[2]:
+    # Of a region that holds nothing, `near` may be above `far`: so what is beyond comes first.
+    if other[0] == "cell" and near <= other[3] and far < other[2]:
         return gap_of(kind, other[2], far)
     return least_beyond(kind, near, other[-1])
 

@@ -3,8 +3,14 @@
 import copy
 import unittest
 
+from nonearer.filters import passes
+from nonearer.lots import Index
+from nonearer.regions import region_of
+from nonearer.summaries import summary
+
 KINDS = ("square", "sum", "most", "unlike")
 FORMS = ("balls", "boxes", "cells")
+EMPTY_REGIONS = {"balls": ("ball", (), 0), "boxes": ("box", (), ()), "cells": ("cell", (), 0, 0)}
 
 
 class Awkward:
@@ -83,6 +89,67 @@ def distance_by_words(kind, one, other):
     sizes = [abs(first - second) for first, second in zip(one, other)]
     return {"square": sum(size ** 2 for size in sizes), "sum": sum(sizes), "most": max(sizes, default=0),
             "unlike": sum(size != 0 for size in sizes)}[kind]
+
+
+def some_question(draw, places, most=6, kind=None):
+    """Returns a random question, of a kind if one is given."""
+    return kind or draw.choice(KINDS), some_vector(draw, places), draw.randint(1, most), some_filter(draw, 3)
+
+
+def pair_by_words(kind, vector, item):
+    """Returns the pair of an item's distance from a vector, and its key."""
+    return distance_by_words(kind, vector, item[1]), item[0]
+
+
+def pairs_by_words(state, kind, vector, sieve):
+    """Returns the ascending list of the pairs of all items that pass."""
+    return sorted(pair_by_words(kind, vector, item) for item in state.values() if passes(sieve, item))
+
+
+def loosened(draw, region):
+    """Returns a region that may hold more vectors than another one."""
+    if region[0] == "ball":
+        return region[:2] + (region[2] + draw.randint(0, 3),)
+    if region[0] == "cell":
+        return region[:2] + (max(0, region[2] - draw.randint(0, 2)), region[3] + draw.randint(0, 3))
+    return ("box", tuple(integer - draw.randint(0, 1) for integer in region[1]),
+            tuple(integer + draw.randint(0, 2) for integer in region[2]))
+
+
+def some_lot(draw, state, keys, kind, form, room):
+    """Returns a random sound lot for a list of keys."""
+    items = tuple(state[key] for key in keys)
+    region = EMPTY_REGIONS[form]
+    if items:
+        region = region_of(kind, form, tuple(item[1] for item in items))
+        region = draw.choice((region, loosened(draw, region)))
+    content = ("items", tuple(sorted(keys)))
+    if len(keys) > 1 and (len(keys) > room or draw.randint(0, 1)):
+        many = draw.randint(2, min(len(keys), 4))
+        ends = [0] + sorted(draw.sample(range(1, len(keys)), many - 1)) + [len(keys)]
+        content = ("lots", tuple(some_lot(draw, state, keys[start:end], kind, form, room)
+                                 for start, end in zip(ends, ends[1:])))
+    return region, summary(items), content
+
+
+def some_index(draw, state, kind, form):
+    """Returns a random sound index of a state, in which near items often lie in one lot."""
+    keys = sorted(state, key=lambda key: state[key][1])
+    if draw.randint(0, 1):
+        draw.shuffle(keys)
+    room = draw.randint(1, 5)
+    return Index(kind, form, some_lot(draw, state, keys, kind, form, room), room)
+
+
+def lots_by_words(lot):
+    """Returns the list of a lot and all lots in it, as [35] numbers them."""
+    inner = lot[2][1] if lot[2][0] == "lots" else ()
+    return [lot] + [one for own in inner for one in lots_by_words(own)]
+
+
+def keys_by_words(lot):
+    """Returns the set of the keys of a lot's items."""
+    return {key for one in lots_by_words(lot) if one[2][0] == "items" for key in one[2][1]}
 
 
 class Case(unittest.TestCase):

@@ -165,9 +165,16 @@ class BetweenTest(Case):
         self.same(floor_between("square", ("box", (3,), (4,)), ("ball", (0,), 4)), 1)
         self.same(floor_between("square", ("ball", (0,), 4), ("box", (3,), (4,))), 1)
 
+    def test_a_cell_that_holds_nothing(self):
+        # Its floor for the other centre is 8, its ceiling 2: so both conditions hold, and the first one counts.
+        one = ("cell", (0, 0), 9, 9)
+        self.same(floor_between("unlike", one, ("cell", (0, 1), 3, 5)), 3)
+        self.same(floor_between("unlike", one, ("cell", (0, 1), 3, 8)), 1)
+        self.same(floor_between("unlike", one, ("ball", (0, 1), 5)), 3)
+
     def test_by_the_words(self):
         draw = random.Random(36)
-        for _ in range(500):
+        for _ in range(3000):
             places, kind = draw.randint(1, 3), draw.choice(KINDS)
             one = some_region(draw, draw.choice(WORDS), places, 5, 9)
             other = some_region(draw, draw.choice(WORDS[::2]), places, 5, 9)

@@ -3,13 +3,14 @@
 import random
 import unittest
 
-from helper import FORMS, KINDS, Awkward, Case, odd_values, shuffled, some_filter, some_state, some_vector
+from helper import (EMPTY_REGIONS, FORMS, KINDS, Awkward, Case, lots_by_words, odd_values, shuffled, some_filter,
+                    some_index, some_state, some_vector)
 from nonearer.distances import distance
 from nonearer.filters import passes
 from nonearer.lots import (Index, all_keys, all_lots, depth_of, index_fault, is_sound, lot_at, lot_count, lots_in,
                            own_keys, path_of)
-from nonearer.regions import ceiling_of, floor_of, region_of
-from nonearer.summaries import may_pass, must_pass, summary
+from nonearer.regions import ceiling_of, floor_of
+from nonearer.summaries import may_pass, must_pass
 
 STATE = {1: (1, (0, 0), ()), 2: (2, (3, 0), (("red", 5),)), 3: (3, (9, 9), (("new", 4),))}
 NEAR = (("box", (0, 0), (3, 0)), (2, (("red", 1, 5, 5),)), ("items", (1, 2)))
@@ -17,7 +18,6 @@ FAR = (("box", (9, 9), (9, 9)), (1, (("new", 1, 4, 4),)), ("items", (3,)))
 ALL_ROWS = (("new", 1, 4, 4), ("red", 1, 5, 5))
 WHOLE = (("box", (0, 0), (9, 9)), (3, ALL_ROWS), ("lots", (NEAR, FAR)))
 INDEX = Index("sum", "boxes", WHOLE, 2)
-EMPTY = {"balls": ("ball", (), 0), "boxes": ("box", (), ()), "cells": ("cell", (), 0, 0)}
 
 
 def replaced(value, at, other):
@@ -30,38 +30,6 @@ def with_lot(number, lot):
     if number == 0:
         return Index("sum", "boxes", lot, 2)
     return Index("sum", "boxes", replaced(WHOLE, 2, ("lots", replaced((NEAR, FAR), number - 1, lot))), 2)
-
-
-def random_lot(draw, state, keys, kind, form, room):
-    """Returns a random sound lot for some keys."""
-    items = tuple(state[key] for key in keys)
-    if items:
-        region = region_of(kind, form, tuple(item[1] for item in items))
-        if region[0] == "ball" and draw.randint(0, 1):
-            region = region[:2] + (region[2] + draw.randint(0, 3),)
-    else:
-        region = EMPTY[form]
-    content = ("items", tuple(sorted(keys)))
-    if len(keys) > 1 and (len(keys) > room or draw.randint(0, 1)):
-        many = draw.randint(2, min(len(keys), 4))
-        ends = [0] + sorted(draw.sample(range(1, len(keys)), many - 1)) + [len(keys)]
-        content = ("lots", tuple(random_lot(draw, state, keys[start:end], kind, form, room)
-                                 for start, end in zip(ends, ends[1:])))
-    return region, summary(items), content
-
-
-def random_index(draw, state, kind, form):
-    """Returns a random sound index of a state."""
-    keys = list(state)
-    draw.shuffle(keys)
-    room = draw.randint(1, 5)
-    return Index(kind, form, random_lot(draw, state, keys, kind, form, room), room)
-
-
-def lots_by_words(lot):
-    """Returns the lots of a lot, as [35] numbers them."""
-    inner = lot[2][1] if lot[2][0] == "lots" else ()
-    return [lot] + [one for own in inner for one in lots_by_words(own)]
 
 
 def depth_by_words(lot):
@@ -111,7 +79,7 @@ class LotsTest(Case):
         self.assertIsNone(path_of(index=INDEX, key=0))
 
     def test_an_index_of_one_lot(self):
-        for form, region in EMPTY.items():
+        for form, region in EMPTY_REGIONS.items():
             index = Index("sum", form, (region, (0, ()), ("items", ())), 1)
             self.same(all_lots(index), (index.lot,))
             self.same((lot_count(index), depth_of(index), all_keys(index.lot)), (1, 1, ()))
@@ -125,7 +93,7 @@ class LotsTest(Case):
         draw = random.Random(35)
         for _ in range(60):
             state = some_state(draw, draw.randint(0, 12), 2)
-            index = random_index(draw, state, "sum", "boxes")
+            index = some_index(draw, state, "sum", "boxes")
             lots = tuple(lots_by_words(index.lot))
             self.same(all_lots(index=index), lots)
             self.same(lot_count(index=index), len(lots))
@@ -153,7 +121,7 @@ class SoundTest(Case):
         for _ in range(150):
             kind, form = draw.choice(KINDS), draw.choice(FORMS)
             state = some_state(draw, draw.randint(0, 12), draw.randint(1, 3))
-            index = random_index(draw, state, kind, form)
+            index = some_index(draw, state, kind, form)
             self.assertIsNone(self.unchanged(index_fault, index, state))
             self.assertIs(is_sound(value=index, state=shuffled(draw, state)), True)
 
@@ -239,8 +207,8 @@ class SoundTest(Case):
         self.same(index_fault(Index("sum", "cells", (cell, (3, ALL_ROWS), items), 3), STATE), ("region", 0))
 
     def test_the_lot_of_a_state_without_items(self):
-        for form, region in EMPTY.items():
-            for other in [one for one in EMPTY.values() if one != region] + [("ball", (), 1), ("cell", (), 0, 1),
+        for form, region in EMPTY_REGIONS.items():
+            for other in [one for one in EMPTY_REGIONS.values() if one != region] + [("ball", (), 1), ("cell", (), 0, 1),
                           ("ball", (0,), 0), ("box", (0,), (0,)), ("cell", (0,), 0, 0), None, Awkward()]:
                 index = Index("sum", form, (other, (0, ()), ("items", ())), 1)
                 self.same(index_fault(index, {}), ("region", 0))
@@ -273,7 +241,7 @@ class SoundTest(Case):
         draw = random.Random(37)
         for _ in range(100):
             state = some_state(draw, draw.randint(4, 10), 2)
-            index = random_index(draw, state, "sum", "boxes")
+            index = some_index(draw, state, "sum", "boxes")
             if index.lot[2][0] != "lots":
                 continue
             lots = index.lot[2][1]
@@ -303,7 +271,7 @@ class TellTest(Case):
         for _ in range(120):
             kind, form, places = draw.choice(KINDS), draw.choice(FORMS), draw.randint(1, 3)
             state = some_state(draw, draw.randint(1, 10), places)
-            index = random_index(draw, state, kind, form)
+            index = some_index(draw, state, kind, form)
             vector, sieve = some_vector(draw, places, 6), some_filter(draw, 3)
             for lot in all_lots(index):
                 items = [state[key] for key in all_keys(lot)]

@@ -3,18 +3,13 @@
 import random
 import unittest
 
-from helper import KINDS, Case, distance_by_words, odd_values, shuffled, some_filter, some_state, some_vector
+from helper import KINDS, Case, odd_values, pair_by_words, shuffled, some_filter, some_state, some_vector
 from nonearer.errors import InvalidNumber, Refused
 from nonearer.filters import passes
 from nonearer.walks import graph_of, guess, is_graph, reached_keys, two_way, walk
 
 STATE = {key: (key, (integer,), ()) for key, integer in ((1, 0), (2, 3), (3, 5), (4, 12), (5, 13))}
 LINE = {1: (2,), 2: (1, 3), 3: (2, 4), 4: (3, 5), 5: ()}
-
-
-def pair_by_words(kind, vector, item):
-    """Returns the pair of an item."""
-    return distance_by_words(kind, vector, item[1]), item[0]
 
 
 def some_graph(draw, state):
