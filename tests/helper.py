@@ -152,6 +152,17 @@ def keys_by_words(lot):
     return {key for one in lots_by_words(lot) if one[2][0] == "items" for key in one[2][1]}
 
 
+def as_values(thing):
+    """Returns what compares as a value: instead of an object of the program, which may not compare, its attributes."""
+    if isinstance(thing, (tuple, list)):
+        return [as_values(one) for one in thing]
+    if isinstance(thing, dict):
+        return {key: as_values(one) for key, one in thing.items()}
+    if thing.__class__.__module__.startswith("nonearer."):
+        return thing.__class__.__name__, as_values(vars(thing))
+    return thing
+
+
 class Case(unittest.TestCase):
     """A test that also looks at the attributes of errors."""
 
@@ -175,7 +186,7 @@ class Case(unittest.TestCase):
         """Returns what a call returns, and asserts that it leaves its arguments as they are."""
         before = copy.deepcopy((args, named))
         result = call(*args, **named)
-        self.assertEqual((args, named), before)
+        self.assertEqual(as_values((args, named)), as_values(before))
         for one, other in zip(args, before[0]):
             if isinstance(one, dict):
                 self.assertEqual(list(one), list(other))
