@@ -139,6 +139,14 @@ class LabelsTest(Case):
             self.assertTrue(is_possible(labels, told) and passes_labels(sieve, labels), sieve)
             self.assertIn("b", [name for name, _ in labels])
 
+    def test_the_least_and_the_greatest_integer_of_two_items(self):
+        told = (2, (("a", 2, 0, 9),))
+        for low, high, wanted in ((5, 20, (("a", 0),)), (-5, 3, (("a", 9),)), (1, 20, (("a", 0),)), (0, 8, (("a", 9),)),
+                                  (0, 9, None), (-5, 20, None)):
+            self.same(possible_labels(("not", ("in", "a", low, high)), told), wanted)
+        self.same(possible_labels(("not", ("or", ("in", "a", -9, 0), ("in", "a", 9, 9))), (3, (("a", 3, 0, 9),)))[0][0], "a")
+        self.assertIsNone(possible_labels(("not", ("or", ("in", "a", -9, 0), ("in", "a", 9, 9))), told))
+
     def test_parting(self):
         self.assertIsNone(parting_labels(ALL, ALL))
         self.assertIsNone(parting_labels(one=("not", ("not", ("has", "a"))), other=("has", "a")))
