@@ -14,8 +14,7 @@ def chosen(choice, at, most):
 
 def cut(disk, choice):
     """Returns the disk that a cut leaves, by a choice of how many changes of names and how many cells stay."""
-    all_files = disk.files_behind_each()
-    files = all_files[chosen(choice, 0, len(all_files) - 1)]
+    files = disk.files_behind(chosen(choice, 0, disk.unsafe_changes()))
     left = {}
     for at, (name, cells, safe) in enumerate(files):
         left[name] = cells[:safe + chosen(choice, at + 1, len(cells) - safe)]

@@ -111,11 +111,23 @@ class Disk:
         """Returns the tuple of the calls that changed the disk, or what is safe."""
         return tuple(self._calls)
 
-    def files_behind_each(self):
-        """Returns the list of the files that have names behind none, some and all changes that are not safe.
+    def unsafe_changes(self):
+        """Returns how many changes of names are not safe."""
+        return len(self._unsafe_changes)
 
-        The files are an ascending tuple of triples: the name, all cells, and how many of these are safe.
+    def files_behind(self, many):
+        """Returns the files that have names when just the first `many` changes that are not safe have been made.
+
+        They are an ascending tuple of triples: the name, all cells, and how many of these are safe.
         """
+        names = self._safe_names
+        for change in self._unsafe_changes[:many]:
+            names = changed_names(names, change)
+        files = [(name, names[name]) for name in sorted(names)]
+        return tuple([(name, tuple(self._cells[number]), self._safe_cells[number]) for name, number in files])
+
+    def files_behind_each(self):
+        """Returns the list of what `files_behind` returns for none, some and all changes, in this sequence."""
         kept = [self._safe_names]
         for change in self._unsafe_changes:
             kept.append(changed_names(kept[-1], change))

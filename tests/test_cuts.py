@@ -188,6 +188,28 @@ class AllTest(Case):
         self.refuses(Refused("size"), all_cuts, disk)
         self.same(disk.read("a"), (0,) * 5000)
 
+    def test_great_lots_are_there_once_and_ascend(self):
+        calls = (("sync_names",), ("append", "a", (0,) * 48), ("append", "b", (1,) * 100))
+        images = moments({"a": (1,), "b": ()}, calls)
+        self.assertEqual(len(images), 4949)
+        self.same(images, tuple(sorted(set(images))))
+        disk = Disk({"a": (1,), "b": ()})
+        disk.append("a", (0,) * 49)
+        disk.append("b", (0,) * 99)
+        self.same(cut_count(disk), 5000)
+        images = all_cuts(disk)
+        self.assertEqual(len(images), 5000)
+        self.same(images, tuple(sorted(set(images))))
+        # With a change of names, and one back again, some images are left in two ways.
+        disk = Disk({"a": (1,), "b": ()})
+        disk.append("a", (0,) * 40)
+        disk.append("b", (0,) * 39)
+        disk.rename("b", "c")
+        disk.rename("c", "b")
+        images = all_cuts(disk)
+        self.assertEqual((cut_count(disk), len(images)), (3 * 41 * 40, 2 * 41 * 40))
+        self.same(images, tuple(sorted(set(images))))
+
     def test_a_great_count(self):
         disk = Disk({name: () for name in "abcdefghij"})
         for name in disk.names():
