@@ -32,6 +32,11 @@ def is_name(value):
     return is_word_of(value, LETTERS, 8)
 
 
+def is_numeral(value, most):
+    """Returns whether any value is a string of 1 to `most` digits that does not begin with `0`, or is `0` itself."""
+    return is_word_of(value, DIGITS, most) and (value[0] != "0" or value == "0")
+
+
 def has_word(value):
     """Returns whether any value is a tuple that begins with a string."""
     return isinstance(value, tuple) and len(value) > 0 and isinstance(value[0], str)
@@ -50,6 +55,15 @@ def is_lot_of_numbers(value):
 def lot_of(things):
     """Returns the lot of a list of things that may be members of a set."""
     return tuple(sorted(set(things)))
+
+
+def is_same(value, wanted):
+    """Returns whether any value is equal to a thing made of tuples, strings and integers, and of the same kinds."""
+    if isinstance(wanted, tuple):
+        return is_tuple_of(value, len(wanted)) and all([is_same(one, other) for one, other in zip(value, wanted)])
+    if isinstance(wanted, str):
+        return isinstance(value, str) and value == wanted
+    return is_int(value) and value == wanted
 
 
 def without_doubles(things):

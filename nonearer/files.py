@@ -1,6 +1,6 @@
 """The names of the files of a shard."""
 
-from nonearer.basics import DIGITS, LETTERS, is_word_of, lot_of
+from nonearer.basics import DIGITS, LETTERS, is_numeral, is_word_of, lot_of
 from nonearer.errors import Refused
 
 LONGEST_SHARD_NAME = 8
@@ -27,11 +27,7 @@ def snapshot_file(name, number):
 def number_behind(text, start):
     """Returns the number whose digits are all that a text has behind a start, `None` if there is none."""
     digits = text[len(start):]
-    if not text.startswith(start) or not is_word_of(digits, DIGITS, MOST_DIGITS):
-        return None
-    if digits[0] == "0" and len(digits) > 1:
-        return None
-    return int(digits)
+    return int(digits) if text.startswith(start) and is_numeral(digits, MOST_DIGITS) else None
 
 
 def numbers_behind(texts, start):

@@ -2,7 +2,7 @@
 
 from nonearer.basics import has_word, is_number, is_tuple_of
 from nonearer.distances import is_kind
-from nonearer.errors import InvalidQuestion, Refused
+from nonearer.errors import InvalidItem, InvalidQuestion, Refused
 from nonearer.filters import is_filter
 from nonearer.items import check_item
 from nonearer.vectors import is_vector
@@ -23,6 +23,15 @@ def check_question(value, places):
         raise InvalidQuestion(3)
 
 
+def is_question(value, places):
+    """Returns whether any value is a question about vectors with so many places."""
+    try:
+        check_question(value, places)
+    except InvalidQuestion:
+        return False
+    return True
+
+
 def check_deed(value, places):
     """Raises an error for any value that is no deed about an item with so many places."""
     if not is_tuple_of(value, 2) or not has_word(value):
@@ -32,6 +41,15 @@ def check_deed(value, places):
         raise Refused("deed")
     if word == "put":
         check_item(thing, places)
+
+
+def is_deed(value, places):
+    """Returns whether any value is a deed about an item with so many places."""
+    try:
+        check_deed(value, places)
+    except (Refused, InvalidItem):
+        return False
+    return True
 
 
 def deed_key(deed):

@@ -1,15 +1,18 @@
 """What several tests share."""
 
 import copy
+import itertools
 import unittest
 
 from nonearer.filters import passes
 from nonearer.lots import Index
-from nonearer.regions import region_of
-from nonearer.summaries import summary
+from nonearer.regions import floor_of, region_of
+from nonearer.summaries import may_pass, summary
 
 KINDS = ("square", "sum", "most", "unlike")
 FORMS = ("balls", "boxes", "cells")
+WORDS = ("empty", "barred", "far", "open")
+ALL = ("all",)
 EMPTY_REGIONS = {"balls": ("ball", (), 0), "boxes": ("box", (), ()), "cells": ("cell", (), 0, 0)}
 
 
@@ -150,6 +153,68 @@ def lots_by_words(lot):
 def keys_by_words(lot):
     """Returns the set of the keys of a lot's items."""
     return {key for one in lots_by_words(lot) if one[2][0] == "items" for key in one[2][1]}
+
+
+def is_right_by_words(word, kind, vector, sieve, reach, lot):
+    """Returns whether a word is right for a lot, as [48] says."""
+    if word == "empty":
+        return lot[1][0] == 0
+    if word == "barred":
+        return not may_pass(sieve, lot[1])
+    if word == "far":
+        return lot[1][0] > 0 and reach is not None and floor_of(kind, lot[0], vector) > reach
+    return word == "open"
+
+
+def steps_by_words(lot, is_right):
+    """Returns the list of all right steps for a lot and what is met behind it, by a function of word and lot."""
+    found = [(word,) for word in WORDS[:3] if is_right(word, lot)]
+    inner = [steps_by_words(one, is_right) for one in (lot[2][1] if lot[2][0] == "lots" else ())]
+    return found + [("open",) + sum(parts, ()) for parts in itertools.product(*inner)]
+
+
+def met_by_words(lot, steps):
+    """Returns the lots met from a lot on, with the steps that are left then."""
+    met, rest = [lot], steps[1:]
+    if steps[0] == "open" and lot[2][0] == "lots":
+        for inner in lot[2][1]:
+            more, rest = met_by_words(inner, rest)
+            met += more
+    return met, rest
+
+
+def some_case(draw, most=7):
+    """Returns a random index, its state, and a kind, a vector, a filter and a reach."""
+    kind, places = draw.choice(KINDS), draw.randint(1, 2)
+    state = some_state(draw, draw.randint(0, most), places)
+    index = some_index(draw, state, kind, draw.choice(FORMS))
+    vector, sieve = some_vector(draw, places, 6), draw.choice((ALL, some_filter(draw, 2)))
+    return index, state, kind, vector, sieve, draw.choice((None, 0, 1, 2, 5, 20))
+
+
+def all_right_by_words(index, kind, vector, sieve, reach):
+    """Returns the list of all right steps, as [48] says."""
+    return steps_by_words(index.lot, lambda word, lot: is_right_by_words(word, kind, vector, sieve, reach, lot))
+
+
+def keys_looked_at(index, steps):
+    """Returns the list of the keys of the items that right steps look at."""
+    return [key for lot, word in zip(met_by_words(index.lot, steps)[0], steps)
+            if word == "open" and lot[2][0] == "items" for key in lot[2][1]]
+
+
+def step_fault_by_words(right, steps):
+    """Returns the number of the first wrong one of a tuple of steps, `None` if they are among the right ones."""
+    if steps in right:
+        return None
+    wrong = [end for end in range(1, len(steps) + 1) if not any(one[:end] == steps[:end] for one in right)]
+    return wrong[0] - 1 if wrong else len(steps)
+
+
+def answer_by_words(state, question):
+    """Returns the answer to a question, as [3] says."""
+    kind, vector, many, sieve = question
+    return tuple(pairs_by_words(state, kind, vector, sieve)[:many])
 
 
 def as_values(thing):

@@ -79,6 +79,30 @@ FUNCTIONS = {
     "guesses": {"is_guess": "state question value", "bounded": "index state question pairs", "is_factor": "value",
                 "is_loose": "state question factor value", "loose_paper": "index state question factor",
                 "is_loose_paper": "index state question factor value"},
+    "judge": {"first_fault": "index state question value", "is_right": "index state question value",
+              "shorter": "index question paper", "within_fault": "index state kind vector reach sieve value",
+              "is_within_paper": "index state kind vector reach sieve value", "tied": "index state question paper",
+              "why_not": "index state question paper key"},
+    "moves": {"empty_book": "", "noted": "book entry", "book_of": "entries", "after_steps": "logs steps",
+              "cut_logs": "logs kept", "books_of": "logs", "move_steps": "books source target keys",
+              "settling_steps": "books", "whole_state": "books", "are_agreed": "books"},
+    "tales": {"lost_keys": "before deeds safe after", "may_be_left": "before deeds safe after",
+              "least_left": "before deeds safe", "left_count": "before deeds safe"},
+    "together": {"together": "shards question", "shards_asked": "value", "is_together": "shards question value"},
+    "printer": {"show_item": "item", "show_state": "state", "show_deed": "deed", "show_deeds": "deeds",
+                "show_filter": "sieve", "show_question": "question", "show_answer": "answer", "show_paper": "paper"},
+    "reader": {"read_state": "places text", "read_deeds": "places text", "read_filter": "text",
+               "read_question": "places text", "read_answer": "text", "read_paper": "text",
+               "completed": "form places text"},
+    "scans": {"floor_pairs": "coder codes state question", "scan": "coder codes state question",
+              "is_scan": "coder codes state question value"},
+    "snapshots": {"snapshot_cells": "book", "read_snapshot": "cells"},
+    "scripts": {"is_command": "value places", "read_script": "places text", "show_command": "command",
+                "show_script": "commands"},
+    "runs": {"run_commands": "commands spread places * kind=square form=boxes room=8",
+             "run_script": "text spread places * kind=square form=boxes room=8", "show_result": "result",
+             "run_fault": "commands results spread places * kind=square"},
+    "claims": {"holds": "value", "failing": "claims", "shown_answer": "claim"},
 }
 
 CLASSES = {
@@ -96,10 +120,30 @@ CLASSES = {
     "papers": {"Paper": {"__init__": "answer steps"}},
     "search": {"Search": {"__init__": "index state kind vector sieve * known= behind=", "step": "", "more": "many",
                           "pairs": "", "bound": "", "opened": "", "passed": ""}},
+    "moves": {"Book": {"__init__": "state waiting given_away mark"}},
+    "standing": {"Standing": {"__init__": "state question * spare=0", "answer": "", "kept": "", "limit": "", "refills": "",
+                              "matters": "deed", "told": "deed state"},
+                 "Nearby": {"__init__": "state kind vector reach sieve", "kept": "", "told": "deed"}},
+    "together": {"Together": {"__init__": "answer steps"}},
+    "boards": {"Board": {"__init__": "* spare=0", "ask": "state question", "leave": "number", "numbers": "",
+                         "answer_to": "number", "answers": "", "refill_count": "", "candidates": "deed",
+                         "touched": "deed", "told": "deed state"}},
+    "scans": {"Scan": {"__init__": "answer chosen"}},
+    "vaults": {"Vault": {"__init__": "disk name", "book": "", "write": "entry", "sync": "", "written": "", "synced": "",
+                         "number": "", "begin": "", "more": "", "finish": "", "is_begun": "", "fold": "", "cells": "",
+                         "is_due": "room"}},
+    "store": {"Store": {"__init__": "disks spread places * kind=square form=boxes room=8", "books": "", "shards": "",
+                        "all_items": "", "owner_of": "key", "put": "item", "take": "key", "sync": "", "tale": "",
+                        "ask": "question", "is_shown": "question value", "move": "source target keys * stop=7",
+                        "level": "", "fold": "room"}},
 }
 
 # Classes whose arguments are attributes, which are set when an object is created.
-KEPT = {"lots": ["Index"], "papers": ["Paper"], "search": ["Search"]}
+KEPT = {"lots": ["Index"], "papers": ["Paper"], "search": ["Search"], "log": ["Log"], "moves": ["Book"],
+        "together": ["Together"], "boards": ["Board"], "scans": ["Scan"], "vaults": ["Vault"], "store": ["Store"]}
+
+# Classes that keep all arguments but the state.
+KEPT_BUT_STATE = {"standing": ["Standing", "Nearby"]}
 
 
 def defined_in(module, kind):
@@ -115,8 +159,7 @@ def parameters(function):
         if one.kind == inspect.Parameter.KEYWORD_ONLY and "*" not in words:
             words.append("*")
         has_default = one.default is not inspect.Parameter.empty
-        words.append(one.name + ("=" if has_default else ""))
-        assert not has_default or one.default is None, function
+        words.append(one.name + ("=" + ("" if one.default is None else str(one.default)) if has_default else ""))
     return words
 
 
@@ -147,14 +190,16 @@ class InterfaceTest(unittest.TestCase):
                 self.assertTrue(module == "errors" or node.bases == [], name)
 
     def test_arguments_are_kept_as_attributes(self):
-        for module, names in KEPT.items():
-            for name in names:
-                words = CLASSES[module][name]["__init__"].replace("*", "").replace("=", "").split()
-                node = defined_in(module, ast.ClassDef)[name]
-                start = [one for one in node.body if getattr(one, "name", "") == "__init__"][0]
-                stored = [one.attr for one in ast.walk(start)
-                          if isinstance(one, ast.Attribute) and isinstance(one.ctx, ast.Store)]
-                self.assertEqual([one for one in stored if not one.startswith("_")], words)
+        for kept, left_out in ((KEPT, ()), (KEPT_BUT_STATE, ("state",))):
+            for module, names in kept.items():
+                for name in names:
+                    words = [word.split("=")[0] for word in CLASSES[module][name]["__init__"].split() if word != "*"]
+                    node = defined_in(module, ast.ClassDef)[name]
+                    start = [one for one in node.body if getattr(one, "name", "") == "__init__"][0]
+                    stored = [one.attr for one in ast.walk(start)
+                              if isinstance(one, ast.Attribute) and isinstance(one.ctx, ast.Store)]
+                    self.assertEqual([one for one in stored if not one.startswith("_")],
+                                     [word for word in words if word not in left_out])
 
     def test_values(self):
         distances = importlib.import_module("nonearer.distances")

@@ -90,6 +90,7 @@ def strings_in(tree):
             if isinstance(node, ast.Constant) and isinstance(node.value, str) and id(node) not in told]
 
 
+ERRORS = {node.name for node in TREES["errors.py"].body if isinstance(node, ast.ClassDef)}
 OWN_METHODS = {node.name for tree in TREES.values() for one in ast.walk(tree) if isinstance(one, ast.ClassDef)
                for node in one.body if isinstance(node, ast.FunctionDef)}
 OWN_ATTRIBUTES = {node.attr for tree in TREES.values() for node in ast.walk(tree)
@@ -165,12 +166,26 @@ class ShapesTest(unittest.TestCase):
             for at, node in enumerate(tree.body):
                 if isinstance(node, ast.Assign):
                     self.assertTrue(len(node.targets) == 1 and isinstance(node.targets[0], ast.Name), file)
-                    ast.literal_eval(node.value)
+                    self.check_value(node.value, {one.name for one in tree.body[:at] if isinstance(one, ast.FunctionDef)})
                 else:
                     self.assertTrue((at == 0 and is_docstring(node)) or
                                     isinstance(node, (ast.ImportFrom, ast.FunctionDef, ast.ClassDef)), file)
             names = top_names(tree)
             self.assertEqual(len(names), len(set(names)), file)
+
+    def check_value(self, value, functions):
+        """Asserts that what a module-level name is given is plain, or a dict of functions that stand above it."""
+        if isinstance(value, ast.Dict) and any(isinstance(one, ast.Name) for one in value.values):
+            self.assertTrue(all(isinstance(key, ast.Constant) for key in value.keys))
+            self.assertTrue(all(isinstance(one, ast.Name) and one.id in functions for one in value.values))
+        else:
+            ast.literal_eval(value)
+
+    def test_tables_of_functions_are_not_called_at_once(self):
+        for file, tree in TREES.items():
+            for node in ast.walk(tree):
+                if isinstance(node, ast.Call):
+                    self.assertIsInstance(node.func, (ast.Name, ast.Attribute), file)
 
     def test_statements_and_expressions(self):
         for file, tree in TREES.items():
@@ -217,7 +232,8 @@ class ShapesTest(unittest.TestCase):
                 if isinstance(node, ast.Raise) and node.exc is not None:
                     self.assertTrue(isinstance(node.exc, ast.Call) and isinstance(node.exc.func, ast.Name))
                 if isinstance(node, ast.ExceptHandler):
-                    self.assertIsInstance(node.type, ast.Name)
+                    errors = node.type.elts if isinstance(node.type, ast.Tuple) else [node.type]
+                    self.assertTrue(all(isinstance(one, ast.Name) and one.id in ERRORS for one in errors))
 
 
 class NamesTest(unittest.TestCase):

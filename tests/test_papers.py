@@ -1,64 +1,23 @@
 """[48], [49], [50], [51], [52], [53], as far as they are about nonearer/papers.py."""
 
-import itertools
 import random
 import unittest
 
-from helper import (EMPTY_REGIONS, FORMS, KINDS, Case, keys_by_words, odd_values, pairs_by_words, some_filter, some_index,
-                    some_question, some_state, some_vector)
+from helper import (EMPTY_REGIONS, FORMS, WORDS, Case, is_right_by_words, keys_by_words, met_by_words, odd_values,
+                    pairs_by_words, some_case, some_index, some_question, some_state, steps_by_words)
 from nonearer.building import built
 from nonearer.errors import InvalidPaper, Refused
 from nonearer.lots import Index
 from nonearer.papers import (Paper, all_right_steps, answer_reach, closing_word, fewer, least_steps, looked, opened_lots,
                              paper_of, right_count, step_of_key, within_paper, work_of)
-from nonearer.regions import floor_of
 from nonearer.search import found
-from nonearer.summaries import may_pass
 
 ALL = ("all",)
-WORDS = ("empty", "barred", "far", "open")
 NEAR = (("box", (0, 0), (3, 0)), (2, ()), ("items", (1, 2)))
 FAR = (("box", (9, 9), (9, 9)), (1, (("new", 1, 4, 4),)), ("items", (3,)))
 WHOLE = (("box", (0, 0), (9, 9)), (3, (("new", 1, 4, 4),)), ("lots", (NEAR, FAR)))
 INDEX = Index("sum", "boxes", WHOLE, 2)
 STATE = {1: (1, (0, 0), ()), 2: (2, (3, 0), ()), 3: (3, (9, 9), (("new", 4),))}
-
-
-def is_right_by_words(word, kind, vector, sieve, reach, lot):
-    """Returns whether a word is right for a lot, as [48] says."""
-    if word == "empty":
-        return lot[1][0] == 0
-    if word == "barred":
-        return not may_pass(sieve, lot[1])
-    if word == "far":
-        return lot[1][0] > 0 and reach is not None and floor_of(kind, lot[0], vector) > reach
-    return word == "open"
-
-
-def steps_by_words(lot, is_right):
-    """Returns the list of all right steps for a lot and what is met behind it, by a function of word and lot."""
-    found = [(word,) for word in WORDS[:3] if is_right(word, lot)]
-    inner = [steps_by_words(one, is_right) for one in (lot[2][1] if lot[2][0] == "lots" else ())]
-    return found + [("open",) + sum(parts, ()) for parts in itertools.product(*inner)]
-
-
-def met_by_words(lot, steps):
-    """Returns the lots met from a lot on, with the steps that are left then."""
-    met, rest = [lot], steps[1:]
-    if steps[0] == "open" and lot[2][0] == "lots":
-        for inner in lot[2][1]:
-            more, rest = met_by_words(inner, rest)
-            met += more
-    return met, rest
-
-
-def some_case(draw, most=7):
-    """Returns a random index, its state, and a kind, a vector, a filter and a reach."""
-    kind, places = draw.choice(KINDS), draw.randint(1, 2)
-    state = some_state(draw, draw.randint(0, most), places)
-    index = some_index(draw, state, kind, draw.choice(FORMS))
-    vector, sieve = some_vector(draw, places, 6), draw.choice((ALL, some_filter(draw, 2)))
-    return index, state, kind, vector, sieve, draw.choice((None, 0, 1, 2, 5, 20))
 
 
 class WordsTest(Case):
