@@ -62,7 +62,7 @@ WRONG = (
      3: [PAPER, Together(SHOWN.answer, SHOWN.steps[:2]), Together(SHOWN.answer[:1], SHOWN.steps), Together(None, None),
          Together(ANSWER, SHOWN.steps)]},
     {1: [{}, OTHER, LONG, SHORT, {1: STATE[1]}], 2: [DEEDS[:1], list(DEEDS), DEEDS + (("drop", 1),), (("put", (5, (0,), ())),) + DEEDS[1:],
-                                                   (("put", (5, (0, 0, 0), ())),) + DEEDS[1:], DEEDS[::-1], ()],
+                                                   (("put", (5, (0, 0, 0), ())),) + DEEDS[1:], (DEEDS[2], DEEDS[1]), ()],
      3: [(0, 1, 2), (1, 0), (0, 0), (0, 3), [0, 1], (True,), (0, 1.0), (-1, 0, 1), 0],
      4: [{}, STATE, LONG, SHORT, {**AFTER, 9: (9, (0, 0), ())}, {**AFTER, 5: (5, (0, 1), ())}, {**AFTER, 5: (5, (0,), ())}]},
     {1: [COMMANDS[:3], list(COMMANDS), COMMANDS + (("sync",),), (("do", ("put", (5, (0,), ()))),) + COMMANDS[1:], ("sync",) * 4,
