@@ -29,7 +29,7 @@ def is_together(shards, question, value):
     kind, vector, many, sieve = question
     if not isinstance(value, Together) or not is_tuple_of(value.steps, len(shards)):
         return False
-    if not are_pairs(value.answer) or len(value.answer) > many:
+    if not are_pairs(value.answer):
         return False
     reach = answer_reach(question, value.answer)
     try:

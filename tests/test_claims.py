@@ -11,7 +11,7 @@ from nonearer.claims import failing, holds, shown_answer
 from nonearer.judge import is_right
 from nonearer.lots import Index, is_sound
 from nonearer.papers import Paper, paper_of
-from nonearer.plain import done_all, state_of
+from nonearer.plain import done_all, nearest, state_of
 from nonearer.runs import run_commands
 from nonearer.together import Together, together
 from test_runs import some_commands
@@ -28,6 +28,7 @@ SHARDS = ((INDEX, STATE), (built(OTHER, "sum", "cells", room=1), OTHER), (built(
 SHOWN = together(SHARDS, QUESTION)
 DEEDS = (("put", (5, (0, 0), ())), ("take", 1), ("put", (5, (2, 2), ())))
 AFTER = {2: STATE[2], 3: STATE[3], 5: (5, (0, 0), ())}
+REST = ("rest", 2)
 COMMANDS = (("do", DEEDS[0]), ("sync",), ("ask", QUESTION), ("cut", (0, 0)))
 RESULTS = run_commands(COMMANDS, ("rest", 2), 2, kind="sum")
 
@@ -92,6 +93,42 @@ class HoldsTest(Case):
                       ("run", (), (), ("keys", ()), 1, "most"), ("left", {}, DEEDS, (), {}), ("left", {}, (("take", 3),), (0,), {})):
             self.assertIs(holds(claim), True)
         self.assertIs(holds(("left", {}, (), (), SHORT)), False)
+
+    def test_claims_about_nothing_that_do_not_hold(self):
+        empty = Together((), ())
+        for question in odd_values() + [QUESTION[:3], ("sum", (1, 0), 0, ALL), ("sums", (1, 0), 1, ALL), 0]:
+            self.assertIs(holds(("together", (), question, empty)), False)
+            self.assertIs(holds(("answer", {}, question, ())), False)
+        for shards in odd_values() + [[], "", 0]:
+            self.assertIs(holds(("together", shards, QUESTION, empty)), False)
+        for spread, places, kind in ((REST, 0, "sum"), (REST, -1, "sum"), (REST, True, "sum"), (REST, None, "sum"),
+                                     (REST, 2, "sums"), (REST, 2, None), (("rest", 0), 2, "sum"), (None, 2, "sum")):
+            self.assertIs(holds(("run", (), (), spread, places, kind)), False)
+        self.assertIs(holds(("run", (), (), REST, 2, "sum")), True)
+        self.assertIs(holds(("left", {}, [], (), {})), False)
+        self.assertIs(holds(("left", {}, (), [], {})), False)
+
+    def test_vectors_with_other_numbers_of_places(self):
+        index = built(SHORT, "sum", "boxes", room=1)
+        mixed = ((index, SHORT), SHARDS[1])
+        question = ("sum", (1,), 1, ALL)
+        answer = nearest(SHORT, question)
+        self.assertIs(holds(("answer", SHORT, question, answer)), True)
+        self.assertIs(holds(("paper", index, SHORT, question, paper_of(index, question, answer))), True)
+        for question in (QUESTION, ("sum", (1, 0), 1, ALL), ("sum", (), 1, ALL)):
+            # The distances are those that all places of one vector tell; but the other has more, or fewer.
+            answer = nearest(SHORT, question)
+            self.assertIs(holds(("answer", SHORT, question, answer)), False)
+            self.assertIs(holds(("paper", index, SHORT, question, paper_of(index, question, answer))), False)
+            self.assertIs(holds(("together", mixed, question, together(mixed, question))), False)
+            self.assertIs(holds(("together", mixed[:1], question, together(mixed[:1], question))), False)
+        for before, deeds, after in ((SHORT, (), {**SHORT, **OTHER}), ({**SHORT, **OTHER}, (), {**SHORT, **OTHER}),
+                                     (SHORT, (("put", OTHER[4]),), {**SHORT, **OTHER}), ({}, (("put", SHORT[1]),), OTHER)):
+            self.assertIs(holds(("left", before, deeds, (), after)), False)
+
+    def test_shards_with_a_common_key(self):
+        for shards in (((INDEX, STATE),) * 2, SHARDS + ((built(OTHER, "sum", "balls", room=3), OTHER),)):
+            self.assertIs(holds(("together", shards, QUESTION, together(shards, QUESTION))), False)
 
     def test_any_value(self):
         for value in odd_values() + [(), "answer", ("answer",), ("claim", STATE), (None,), ("",), ("tidy", INDEX), 0, [1, 2],

@@ -127,6 +127,8 @@ class ReadTest(Case):
                             ("a & b | c", ("or", ("and", A, B), C)), ("!a & b", ("and", ("not", A), B)),
                             ("!(a & b)", ("not", ("and", A, B))), ("!!!a", ("not", ("not", ("not", A)))),
                             ("((a))", A), ("((a & b))", ("and", A, B)), ("!((a)) | (b)", ("or", ("not", A), B)),
+                            ("!a & !!b | !c", ("or", ("and", ("not", A), ("not", ("not", B))), ("not", C))),
+                            ("!(!a | b) & !c", ("and", ("not", ("or", ("not", A), B)), ("not", C))),
                             ("(a) & (b) & (c)", ("and", A, B, C)), ("!1 <= a <= 2", ("not", ("in", "a", 1, 2))),
                             ("if & none | nearest", ("or", ("and", ("has", "if"), ("has", "none")), ("has", "nearest"))),
                             ("a & a", ("and", A, A)), ("abcdefgh", ("has", "abcdefgh"))):

@@ -248,7 +248,11 @@ class FaultTest(Case):
 
     def wrong(self):
         """Returns values that are no results at all."""
-        return [(odd, False) for odd in odd_values() + [(), "ok", ["ok"], (None,), ("no",), (("ok",),), ("ok", 1), 0]]
+        wrong = odd_values() + [(), "ok", ["ok"], (None,), ("no",), (("ok",),), ("ok", 1), 0]
+        wrong += [(odd, thing) for odd in odd_values() for thing in (0, (), 1)] + [(odd,) for odd in odd_values()]
+        wrong += [(word, odd) for word in ("shard", "answer", "moves", "count", "keys", "shards", "opened", "refused")
+                  for odd in odd_values()]
+        return [(value, False) for value in wrong]
 
     def test_the_shape(self):
         commands, results = (PUT4, ("count",)), (("shard", 0), ("count", 1))
@@ -291,7 +295,7 @@ class FaultTest(Case):
         self.check((("ask", ("sum", (1, 0), 1, ALL)),), [(("answer", ()), True), (("answer", ((0, 0),)), False)])
 
     def test_syncs_counts_keys_and_levels(self):
-        self.check((PUT4, ("sync",)), [(("ok",), True), (("ok", ()), False), (("count", 1), False)] + self.wrong()[:-2])
+        self.check((PUT4, ("sync",)), [(("ok",), True), (("ok", ()), False), (("count", 1), False)] + self.wrong())
         self.check((PUT4, ("count",)), [(("count", 1), True), (("count", 2), False), (("count", True), False),
                                         (("count", 1.0), False), (("count",), False), (("keys", 1), False)] + self.wrong())
         self.check((PUT4, PUT9, ("keys",)), [(("keys", (4, 9)), True), (("keys", (4,)), False), (("keys", (9, 4)), False),

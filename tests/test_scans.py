@@ -110,6 +110,10 @@ class ScanTest(Case):
         self.assertIs(is_scan(CODER, CODES, STATE, question, Scan(answer, (1, 2, 4, 5))), True)
         self.assertIs(is_scan(CODER, CODES, STATE, question, Scan(answer[:3], (2, 4, 5))), False)
         self.assertIs(is_scan(CODER, CODES, STATE, question, Scan(answer, every)), False)
+        # What does not pass is not chosen, even if it is too far to matter.
+        question = ("sum", (5, 0), 1, ("not", ("has", "new")))
+        self.assertIs(is_scan(CODER, CODES, STATE, question, Scan(((2, 2),), (1, 2))), True)
+        self.assertIs(is_scan(CODER, CODES, STATE, question, Scan(((2, 2),), (1, 2, 3))), False)
 
     def test_any_value(self):
         answer, chosen = ((2, 2), (2, 5)), (1, 2, 4, 5)

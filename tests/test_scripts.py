@@ -39,6 +39,8 @@ class CommandTest(Case):
         self.assertIs(is_command(("do", ("put", ITEM)), 1), False)
         self.assertIs(is_command(("ask", QUESTION), 3), False)
         self.assertIs(is_command(("do", ("take", 12)), 9), True)
+        self.assertIs(is_command(("move", 8, 99, (4,)), 2), True)
+        self.assertIs(is_command(("stop", 7, 8, 99, (4,)), 2), True)
 
     def test_any_value(self):
         for value in odd_values() + [(), "sync", ["sync"], ("Sync",), ("",), ("put", ITEM), ("take", 4), (("sync",),), 0]:

@@ -48,6 +48,12 @@ class LostTest(Case):
         self.same(lost_keys(before={2: THREE}, deeds=(), safe=(), after={}), (2,))
         self.assertIs(may_be_left(before={2: THREE}, deeds=(), safe=(), after={2: THREE}), True)
 
+    def test_the_keys_ascend(self):
+        keys = (10 ** 8, 7, 10 ** 8 + 5, 64, 3, 999999999)
+        deeds = tuple(("put", (key, (0,), ())) for key in keys[:3])
+        after = {key: (key, (1,), ()) for key in keys}
+        self.same(lost_keys({}, deeds, (0,), after), (3, 7, 64, 10 ** 8, 10 ** 8 + 5, 999999999))
+
     def test_a_safe_deed_counts_for_its_key_alone(self):
         self.same(lost_keys({}, DEEDS, (3,), {1: TWO}), ())
         self.same(lost_keys({}, DEEDS, (1,), {2: THREE}), ())

@@ -270,6 +270,18 @@ class FoldTest(Case):
         self.same(disk.names(), ("a.l4", "a.s4", "b.l0"))
         self.assertEqual(Vault(disk, "a").book().state, {6: SIX})
 
+    def test_what_is_safe_behind_a_snapshot(self):
+        disk = Disk({})
+        vault = Vault(disk, "a")
+        vault.write(PUT)
+        vault.fold()
+        vault.write(OTHER)
+        # The names are safe, but for what is removed then.
+        left = cut(disk, (0, 0, 0, 0))
+        self.same(left.image(), (("a.l0", records_of((PUT,))), ("a.l1", ()), ("a.s1", snapshot_cells(some_book(PUT)))))
+        self.same([cut(disk, (many,)).names() for many in (1, 2)], [("a.l1", "a.s1")] * 2)
+        self.assertEqual(Vault(left, "a").book().state, {5: FIVE})
+
     def test_a_snapshot_that_was_begun_is_forgotten(self):
         disk = Disk({})
         vault = Vault(disk, "a")
@@ -304,6 +316,10 @@ class FoldTest(Case):
         self.same(vault.cells(), (snapshot, 10 * size))
         self.same([vault.is_due(room) for room in (0, 10 * size - snapshot - 1, 10 * size - snapshot)], [True, True, False])
         self.same(Vault(vault.disk, "a").cells(), (snapshot, 10 * size))
+        # Logs with lesser numbers do not count, wherever they come from.
+        vault.disk.make("a.l0")
+        vault.disk.append("a.l0", (1, 2, 3))
+        self.same(vault.cells(), (snapshot, 10 * size))
 
     def test_finished_ones_are_not_too_great(self):
         draw = random.Random(76)
