@@ -217,6 +217,48 @@ def answer_by_words(state, question):
     return tuple(pairs_by_words(state, kind, vector, sieve)[:many])
 
 
+def some_deed(draw, keys, places):
+    """Returns a random deed about one of so many keys."""
+    key = draw.randrange(keys)
+    if draw.randint(0, 1):
+        return "take", key
+    return "put", (key, some_vector(draw, places, 3), some_labels(draw, "abc", -1, 2))
+
+
+def differences_by_words(before, now):
+    """Returns the tuples of what is gone and what is new."""
+    return (tuple(pair for pair in before if pair not in now), tuple(pair for pair in now if pair not in before))
+
+
+def parts_of(book):
+    """Returns the attributes of a book, which may be compared."""
+    return book.state, book.waiting, book.given_away, book.mark
+
+
+def some_command(draw, places):
+    """Returns a random command."""
+    word = draw.choice(("do", "do", "ask", "sync", "level", "count", "keys", "fold", "cut", "move", "stop"))
+    keys = tuple(sorted(draw.sample(range(30), draw.randint(1, 3))))
+    item = list(some_state(draw, 1, places).values())[0]
+    parts = {"do": (draw.choice((("put", item), ("take", item[0]))),), "ask": (some_question(draw, places),),
+             "fold": (draw.randint(0, 99),), "cut": (tuple(draw.randint(0, 99) for _ in range(draw.randint(0, 3))),),
+             "move": (draw.randint(0, 3), draw.randint(0, 3), keys),
+             "stop": (draw.randint(0, 7), draw.randint(0, 3), draw.randint(0, 3), keys)}
+    return (word,) + parts.get(word, ())
+
+
+def some_commands(draw, most=25):
+    """Returns random commands about items with two places, many of which can be done."""
+    commands = []
+    for _ in range(draw.randint(0, most)):
+        command = some_command(draw, 2)
+        if command[0] in ("move", "stop") and draw.randint(0, 3):
+            keys = [one[1][1][0] for one in commands if one[0] == "do" and one[1][0] == "put"]
+            command = command[:-1] + ((draw.choice(keys or [1]),),)
+        commands.append(command)
+    return tuple(commands)
+
+
 def as_values(thing):
     """Returns what compares as a value: instead of an object of the program, which may not compare, its attributes."""
     if isinstance(thing, (tuple, list)):

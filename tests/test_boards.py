@@ -3,14 +3,13 @@
 import random
 import unittest
 
-from helper import (ALL, Awkward, Case, answer_by_words, distance_by_words, odd_values, some_filter, some_question,
-                    some_state, some_vector)
+from helper import (ALL, Awkward, Case, answer_by_words, differences_by_words, distance_by_words, odd_values, some_deed,
+                    some_filter, some_question, some_state, some_vector)
 from nonearer.boards import Board
 from nonearer.distances import reaches
 from nonearer.errors import InvalidNumber
 from nonearer.plain import done, state_of
 from nonearer.standing import Standing
-from test_standing import differences_by_words, some_deed
 
 LINE = state_of(((1, (0,), ()), (2, (4,), ()), (3, (9,), ())))
 

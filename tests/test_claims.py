@@ -4,7 +4,7 @@ import random
 import unittest
 
 from helper import (ALL, FORMS, KINDS, Awkward, Case, all_right_by_words, answer_by_words, odd_values, some_filter,
-                    some_index, some_labels, some_state, some_vector)
+                    some_commands, some_index, some_labels, some_state, some_vector)
 from nonearer.building import built
 from nonearer.changes import is_tidy, with_item
 from nonearer.claims import failing, holds, shown_answer
@@ -14,7 +14,6 @@ from nonearer.papers import Paper, paper_of
 from nonearer.plain import done_all, nearest, state_of
 from nonearer.runs import run_commands
 from nonearer.together import Together, together
-from test_runs import some_commands
 
 STATE = {1: (1, (0, 0), ()), 2: (2, (3, 0), (("a", 1),)), 3: (3, (9, 9), (("new", 4),))}
 OTHER = {4: (4, (1, 1), ())}

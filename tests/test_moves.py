@@ -4,7 +4,7 @@ import itertools
 import random
 import unittest
 
-from helper import Case, odd_values
+from helper import Case, odd_values, parts_of
 from nonearer.errors import Refused
 from nonearer.moves import (Book, after_steps, are_agreed, book_of, books_of, cut_logs, empty_book, move_steps, noted,
                             settling_steps, whole_state)
@@ -13,11 +13,6 @@ from nonearer.plain import done
 ONE, TWO, FIVE = (1, (0, 0), ()), (2, (3, 1), (("red", 1),)), (5, (4, 4), ())
 OTHER = (1, (9, 9), ())
 OWNED = (("deed", ("put", ONE)), ("deed", ("put", TWO)), ("deed", ("put", FIVE)))
-
-
-def parts_of(book):
-    """Returns the attributes of a book, which may be compared."""
-    return book.state, book.waiting, book.given_away, book.mark
 
 
 def book(state=(), waiting=None, given_away=None, mark=0):

@@ -3,7 +3,7 @@
 import random
 import unittest
 
-from helper import ALL, FORMS, KINDS, Case, answer_by_words, odd_values
+from helper import ALL, FORMS, KINDS, Case, answer_by_words, odd_values, some_commands
 from nonearer.cuts import cut
 from nonearer.disk import Disk
 from nonearer.errors import InvalidText, Refused
@@ -14,24 +14,11 @@ from nonearer.scripts import show_script
 from nonearer.spread import shard_count
 from nonearer.store import Store
 from nonearer.tales import may_be_left
-from test_scripts import some_command
 
 FOUR, NINE = (4, (0, 0), ()), (9, (3, 1), (("red", 1),))
 PUT4, PUT9 = ("do", ("put", FOUR)), ("do", ("put", NINE))
 SPREADS = (("rest", 1), ("rest", 2), ("keys", (10, 20)), ("centres", "most", ((0, 0), (3, 3))))
 REST = ("rest", 2)
-
-
-def some_commands(draw, most=25):
-    """Returns random commands about items with two places, many of which can be done."""
-    commands = []
-    for _ in range(draw.randint(0, most)):
-        command = some_command(draw, 2)
-        if command[0] in ("move", "stop") and draw.randint(0, 3):
-            keys = [one[1][1][0] for one in commands if one[0] == "do" and one[1][0] == "put"]
-            command = command[:-1] + ((draw.choice(keys or [1]),),)
-        commands.append(command)
-    return tuple(commands)
 
 
 def results_by_words(commands, spread, places, kind, form, room):

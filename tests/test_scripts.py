@@ -3,7 +3,7 @@
 import random
 import unittest
 
-from helper import ALL, Case, odd_values, some_filter, some_question, some_state, some_vector
+from helper import ALL, Case, odd_values, some_command, some_filter, some_question, some_state, some_vector
 from nonearer.errors import InvalidText
 from nonearer.printer import show_deed, show_question
 from nonearer.scripts import is_command, read_script, show_command, show_script
@@ -16,18 +16,6 @@ ROWS = ((("do", ("put", ITEM)), "put 4: 0 -5, red 1"), (("do", ("take", 12)), "t
         (("cut", (3, 0, 3)), "cut 3 0 3"), (("move", 0, 1, (4, 9)), "move 0 1 4 9"), (("move", 5, 5, (0,)), "move 5 5 0"),
         (("stop", 3, 0, 1, (4, 9)), "stop 3 0 1 4 9"), (("stop", 0, 0, 0, (0,)), "stop 0 0 0 0"),
         (("stop", 7, 0, 1, (4,)), "stop 7 0 1 4"))
-
-
-def some_command(draw, places):
-    """Returns a random command."""
-    word = draw.choice(("do", "do", "ask", "sync", "level", "count", "keys", "fold", "cut", "move", "stop"))
-    keys = tuple(sorted(draw.sample(range(30), draw.randint(1, 3))))
-    item = list(some_state(draw, 1, places).values())[0]
-    parts = {"do": (draw.choice((("put", item), ("take", item[0]))),), "ask": (some_question(draw, places),),
-             "fold": (draw.randint(0, 99),), "cut": (tuple(draw.randint(0, 99) for _ in range(draw.randint(0, 3))),),
-             "move": (draw.randint(0, 3), draw.randint(0, 3), keys),
-             "stop": (draw.randint(0, 7), draw.randint(0, 3), draw.randint(0, 3), keys)}
-    return (word,) + parts.get(word, ())
 
 
 class CommandTest(Case):

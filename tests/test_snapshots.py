@@ -3,12 +3,11 @@
 import random
 import unittest
 
-from helper import Case, some_labels, some_vector
+from helper import Case, parts_of, some_labels, some_vector
 from nonearer.cells import item_cells, number_cells
 from nonearer.log import framed
 from nonearer.moves import Book
 from nonearer.snapshots import read_snapshot, snapshot_cells
-from test_moves import parts_of
 
 ONE, TWO, THREE = (1, (0, -3), ()), (2, (3, 1), (("red", 1),)), (300, (4, 4), ())
 

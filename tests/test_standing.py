@@ -3,26 +3,13 @@
 import random
 import unittest
 
-from helper import (ALL, KINDS, Awkward, Case, answer_by_words, pair_by_words, pairs_by_words, some_filter, some_labels,
-                    some_question, some_state, some_vector)
+from helper import (ALL, KINDS, Awkward, Case, answer_by_words, differences_by_words, pair_by_words, pairs_by_words,
+                    some_deed, some_filter, some_question, some_state, some_vector)
 from nonearer.filters import passes
 from nonearer.plain import done, state_of
 from nonearer.standing import Nearby, Standing
 
 LINE = state_of(((1, (0,), ()), (2, (4,), ()), (3, (9,), ())))
-
-
-def some_deed(draw, keys, places):
-    """Returns a random deed about one of so many keys."""
-    key = draw.randrange(keys)
-    if draw.randint(0, 1):
-        return "take", key
-    return "put", (key, some_vector(draw, places, 3), some_labels(draw, "abc", -1, 2))
-
-
-def differences_by_words(before, now):
-    """Returns the tuples of what is gone and what is new."""
-    return (tuple(pair for pair in before if pair not in now), tuple(pair for pair in now if pair not in before))
 
 
 class Words:

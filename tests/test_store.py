@@ -4,20 +4,19 @@ import itertools
 import random
 import unittest
 
-from helper import ALL, FORMS, KINDS, Case, answer_by_words, odd_values, some_filter, some_labels, some_vector
+from helper import ALL, FORMS, KINDS, Case, answer_by_words, odd_values, parts_of, some_filter, some_labels, some_vector
 from nonearer.cuts import all_cuts, cut, played
 from nonearer.disk import Disk
 from nonearer.errors import Broken, InvalidItem, InvalidNumber, InvalidQuestion, Refused
 from nonearer.log import record_cells
 from nonearer.lots import is_sound
 from nonearer.moves import book_of
-from nonearer.plain import done, done_all, state_of, union_of
+from nonearer.plain import done, done_all, state_of
 from nonearer.snapshots import snapshot_cells
 from nonearer.spread import home_of, shard_count, strays
 from nonearer.store import Store
 from nonearer.tales import lost_keys
 from nonearer.together import Together, is_together
-from test_moves import parts_of
 
 FOUR, NINE = (4, (0, 0), ()), (9, (3, 0), ())
 KEYS = ("keys", (5,))

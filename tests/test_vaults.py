@@ -3,7 +3,7 @@
 import random
 import unittest
 
-from helper import Case, odd_values
+from helper import Case, odd_values, parts_of
 from nonearer.cuts import all_cuts, cut, cut_count, moments, played
 from nonearer.disk import Disk
 from nonearer.errors import Broken, Refused
@@ -11,7 +11,6 @@ from nonearer.log import record_cells
 from nonearer.moves import Book, book_of, noted
 from nonearer.snapshots import snapshot_cells
 from nonearer.vaults import Vault
-from test_moves import parts_of
 
 FIVE, SIX = (5, (1,), ()), (6, (1,), ())
 PUT, TAKE = ("deed", ("put", FIVE)), ("deed", ("take", 5))
