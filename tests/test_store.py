@@ -322,6 +322,25 @@ class MoveTest(Case):
             self.assertEqual([parts_of(book)[1:3] for book in store_on(disks).books()], [({}, {})] * 2)
             self.same([disk.image() for disk in disks], images)
 
+    def test_stops_between_each_two_shards(self):
+        items = tuple((key, (key, 0), ()) for key in range(6))
+        for is_one, (source, target), stop in itertools.product((False, True), itertools.permutations(range(3), 2), range(8)):
+            disks = (Disk({}),) * 3 if is_one else (Disk({}), Disk({}), Disk({}))
+            store = store_on(disks, ("rest", 3))
+            for item in items:
+                store.put(item)
+            store.move(source, target, (source, source + 3), stop=stop)
+            again = store_on(disks, ("rest", 3))
+            self.assertEqual(again.all_items(), state_of(items))
+            homes = [key % 3 if key % 3 != source or stop < 3 else target for key in range(6)]
+            self.same([again.owner_of(key) for key in range(6)], homes)
+            # The move may be made again, and back, behind whatever a stop has left.
+            if stop < 3:
+                again.move(source, target, (source, source + 3))
+            again.move(target, source, (source, source + 3))
+            self.same([again.owner_of(key) for key in range(6)], [0, 1, 2, 0, 1, 2])
+            self.same(again.ask(("sum", (0, 0), 6, ALL)).answer, tuple((key, key) for key in range(6)))
+
     def test_level(self):
         disks = two_disks()
         store = store_on(disks)
